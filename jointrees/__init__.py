@@ -1,0 +1,1 @@
+"""Heads of tables joined along trees."""
