@@ -1,7 +1,7 @@
 """Ears: heads that go because another one has all that they share."""
 
 from jointrees.errors import NoDeed
-from jointrees.kinds import is_two_below
+from jointrees.kinds import has_all, is_two_below
 
 
 def all_numbers(layout):
@@ -20,8 +20,7 @@ def holders_of(layout, left, number):
     """The rising list of the heads left that hold this one; none where it is no ear."""
     heads = layout[1]
     shared = shared_by(layout, left, number)
-    return [other for other in left
-            if other != number and all([column in heads[other] for column in shared])]
+    return [other for other in left if other != number and has_all(heads[other], shared)]
 
 
 def ears_among(layout, left):

@@ -21,6 +21,21 @@ def is_two_below(thing, many):
     return are_below(thing, many) and len(thing) == 2
 
 
+def are_unlike(things):
+    """Whether no two are alike; the things are whole numbers."""
+    return len(set(things)) == len(things)
+
+
+def are_all_below(thing, many):
+    """Whether a thing is a tuple of all whole numbers from 0 to many, less one, each once."""
+    return are_below(thing, many) and len(thing) == many and are_unlike(thing)
+
+
+def has_all(things, wanted):
+    """Whether all that are wanted are among the things."""
+    return all([one in things for one in wanted])
+
+
 def is_rising(things):
     """Whether each is greater than the one ahead; the things must be comparable."""
     return all([one < other for one, other in zip(things, things[1:])])

@@ -1,7 +1,7 @@
 """Layouts: how many columns there are, and which of them each head has."""
 
 from jointrees.errors import NoColumn, NoHead, NoOrder, TooMany
-from jointrees.kinds import are_below, is_below, is_rising, is_whole, linked
+from jointrees.kinds import are_all_below, are_below, is_below, is_rising, is_whole, linked
 
 MOST_COLUMNS = 7
 MOST_HEADS = 6
@@ -46,6 +46,11 @@ def common(layout, one, other):
     return tuple([column for column in heads[one] if column in heads[other]])
 
 
+def columns_in_heads(layout):
+    """The rising tuple of the columns that a head has."""
+    return tuple([column for column in range(layout[0]) if heads_of(layout, column)])
+
+
 def pieces(layout):
     """The heads' numbers that hang together by common columns, by their least ones."""
     numbers = list(range(len(layout[1])))
@@ -66,7 +71,7 @@ def moved(heads, places):
 def named(layout, order):
     """The layout in which the column number k of the order is numbered k."""
     many, heads = layout
-    if not are_below(order, many) or sorted(order) != list(range(many)):
+    if not are_all_below(order, many):
         raise NoOrder("no tuple of all columns, each once")
     return (many, moved(heads, {column: place for place, column in enumerate(order)}))
 

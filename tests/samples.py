@@ -16,7 +16,12 @@ APART = (7, ((0,), (1,), (2,), (3,), (4,), (5, 6)))
 TWINS = (2, ((0, 1), (0, 1)))
 WITHIN = (3, ((1,), (0, 1, 2)))
 GAPPED = (5, ((0, 2), (2, 4), (4,)))
-LAYOUTS = [ONE, LINE, PATH, TRIANGLE, COVERED, RING, TAILED, STAR, ALIKE, APART, TWINS, WITHIN, GAPPED]
+RING_5 = (5, ((0, 1), (1, 2), (2, 3), (3, 4), (0, 4)))
+RING_6 = (6, ((0, 1), (1, 2), (2, 3), (3, 4), (4, 5), (0, 5)))
+LOT_4 = (4, ((0, 1, 2), (0, 1, 3), (0, 2, 3), (1, 2, 3)))
+LOT_7 = (7, ((0, 1, 2, 3, 4, 5), (0, 1, 2, 3, 4, 6), (5, 6)))
+LAYOUTS = [ONE, LINE, PATH, TRIANGLE, COVERED, RING, TAILED, STAR, ALIKE, APART, TWINS, WITHIN, GAPPED, RING_5, RING_6,
+           LOT_4, LOT_7]
 
 
 def nested(depth, kind):
@@ -49,6 +54,18 @@ def drawn_layouts(many):
         heads = [tuple(sorted(draw.sample(range(columns), draw.randint(1, most))))
                  for _ in range(draw.randint(3, 6))]
         found.append((columns, tuple(heads)))
+    return found
+
+
+def wide_layouts(many):
+    """So many layouts of seven columns and six heads, of few columns and of many, the same ones each time."""
+    draw = random.Random(30)
+    found = []
+    while len(found) < many:
+        share = (15, 25, 40, 60, 75, 90)[len(found) % 6]
+        heads = [tuple([c for c in range(7) if draw.randint(1, 100) <= share]) for _ in range(6)]
+        if all(heads):
+            found.append((7, tuple(heads)))
     return found
 
 
@@ -116,3 +133,122 @@ def ends(layout):
             found.add(left)
         reached |= {tuple(h for h in left if h != k) for k in gone}
     return found
+
+
+def spoiled(thing):
+    """Things of other kinds: in each, one part of the thing, or all of it, is of another kind or beyond all bounds."""
+    found = [None, True, False, (thing,), [thing], {"a": thing}, {}, [], "", -1, BIG, -BIG]
+    if isinstance(thing, int):
+        found += [str(thing), -1 - thing]
+    if isinstance(thing, tuple):
+        found += [list(thing), dict(enumerate(thing)), thing + (None,), thing + (True,), thing + ("0",), thing + ([],)]
+        for place, part in enumerate(thing):
+            found += [thing[:place] + (other,) + thing[place + 1:] for other in spoiled(part)]
+    return found
+
+
+def first_of(things):
+    """The first one of what is gone through, None where there is none."""
+    return next(iter(things), None)
+
+
+def mates(layout, column):
+    """The mates of a column, by 2."""
+    return {c for head in layout[1] if column in head for c in head if c != column}
+
+
+def in_heads(layout):
+    """The columns that a head has, in order."""
+    return [c for c in range(layout[0]) if any(c in head for head in layout[1])]
+
+
+def plain_bars(layout):
+    """All bars of a layout, by 41."""
+    beside = {c: mates(layout, c) for c in range(layout[0])}
+    found = []
+    for size in range(3, layout[0] + 1):
+        for lot in itertools.combinations(range(layout[0]), size):
+            if all(b in beside[a] for a, b in itertools.combinations(lot, 2)):
+                if not any(set(lot) <= set(head) for head in layout[1]):
+                    found.append(("lot", lot))
+        for ring in itertools.permutations(range(layout[0]), size) if size > 3 else ():
+            if ring[0] == min(ring) and ring[1] < ring[-1]:
+                near = {c: {ring[k - 1], ring[(k + 1) % size]} for k, c in enumerate(ring)}
+                if all(beside[c] & set(ring) == near[c] for c in ring):
+                    found.append(("ring", ring))
+    return found
+
+
+def is_row_of_nests(layout, row):
+    """Whether an order of the columns that a head has is a row of nests, by 51."""
+    for place, column in enumerate(row):
+        left = [set(head) - set(row[:place]) for head in layout[1]]
+        for one, other in itertools.combinations([head for head in left if column in head], 2):
+            if not (one <= other or other <= one):
+                return False
+    return True
+
+
+def rows_of_nests(layout):
+    """All rows of nests, one behind the other as tuples compare."""
+    return (row for row in itertools.permutations(in_heads(layout)) if is_row_of_nests(layout, row))
+
+
+def comes_round(layout, heads, columns):
+    """Whether unlike heads and unlike columns, as many, come round, by 52 and 53."""
+    sets = [set(layout[1][k]) for k in heads]
+    unlike = len(set(heads)) == len(heads) == len(columns) == len(set(columns))
+    return unlike and all(c in sets[k] and c in sets[(k + 1) % len(sets)] for k, c in enumerate(columns))
+
+
+def plain_is_loop(layout, heads, columns):
+    """Whether rows of heads and columns are a loop, by 53."""
+    return len(heads) >= 2 and comes_round(layout, heads, columns)
+
+
+def plain_is_wreath(layout, heads, columns):
+    """Whether rows of heads and columns are a wreath, by 52."""
+    if len(heads) < 3 or not comes_round(layout, heads, columns):
+        return False
+    return all(sum(c in layout[1][k] for k in heads) == 2 for c in columns)
+
+
+def ways_round(layout, least):
+    """Rows of unlike heads, so many at least, each with rows of columns that each two that follow share."""
+    for size in range(least, len(layout[1]) + 1):
+        for heads in itertools.permutations(range(len(layout[1])), size):
+            if heads[0] == min(heads):
+                sets = [set(layout[1][k]) for k in heads]
+                shared = [sorted(sets[k] & sets[(k + 1) % size]) for k in range(size)]
+                for columns in itertools.product(*shared):
+                    yield heads, columns
+
+
+def runs(layout, order):
+    """Whether an order of all heads is a running order, by 61."""
+    sets = [set(layout[1][k]) for k in order]
+    for place in range(1, len(order)):
+        shared = sets[place] & set().union(*sets[:place])
+        if not any(shared <= head for head in sets[:place]):
+            return False
+    return True
+
+
+def running_orders(layout):
+    """All running orders, one behind the other as tuples compare."""
+    return (order for order in itertools.permutations(range(len(layout[1]))) if runs(layout, order))
+
+
+def orders_columns(layout, order):
+    """Whether an order of all columns is a column order, by 62."""
+    heads = [set(head) for head in layout[1]]
+    for place, column in enumerate(order):
+        wanted = {column} | mates(layout, column) & set(order[place:])
+        if any(column in head for head in heads) and not any(wanted <= head for head in heads):
+            return False
+    return True
+
+
+def column_orders(layout):
+    """All column orders, one behind the other as tuples compare."""
+    return (order for order in itertools.permutations(range(layout[0])) if orders_columns(layout, order))
