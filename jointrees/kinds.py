@@ -41,6 +41,23 @@ def is_rising(things):
     return all([one < other for one, other in zip(things, things[1:])])
 
 
+def are_some_of(thing, numbers):
+    """Whether a thing is a rising tuple of some of these whole numbers, perhaps of none."""
+    if not isinstance(thing, tuple) or not all([is_whole(part) and part in numbers for part in thing]):
+        return False
+    return is_rising(thing)
+
+
+def places_in(columns, wanted):
+    """The places at which the wanted ones stand among the columns."""
+    return [columns.index(column) for column in wanted]
+
+
+def at_places(row, places):
+    """What the row has at these places."""
+    return tuple([row[place] for place in places])
+
+
 def linked(labels, one, other):
     """The labels when the two places hang together; a label is the least place it stands at."""
     least = min(labels[one], labels[other])

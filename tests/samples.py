@@ -252,3 +252,106 @@ def orders_columns(layout, order):
 def column_orders(layout):
     """All column orders, one behind the other as tuples compare."""
     return (order for order in itertools.permutations(range(layout[0])) if orders_columns(layout, order))
+
+
+def all_rows(head, figures, most=625):
+    """A table of a head: the first rows of so many figures, at most so many."""
+    return tuple(itertools.islice(itertools.product(range(figures), repeat=len(head)), most))
+
+
+def full_tables(layout, figures, most=625):
+    """Tables with all rows of so many figures, at most so many in each."""
+    return tuple(all_rows(head, figures, most) for head in layout[1])
+
+
+def drawn_tables(layout, many, seed=40):
+    """So many tables of a layout, the same ones each time: some with joined rows, some without, some with no row."""
+    draw = random.Random(f"{seed} {layout}")
+    found = []
+    for turn in range(many):
+        figures = draw.choice((2, 2, 3, 10))
+        noise = (0, 1, 4, 9) if len(layout[1]) < 4 else (0, 1, 3)
+        whole = [[draw.randrange(figures) for _ in range(layout[0])] for _ in range(draw.choice((0, 1, 2, 5)))]
+        tables = []
+        for head in layout[1]:
+            rows = {tuple(row[c] for c in head) for row in whole}
+            rows |= {tuple(draw.randrange(figures) for _ in head) for _ in range(draw.choice(noise))}
+            tables.append(() if draw.randrange(30) == 0 else tuple(sorted(rows)))
+        found.append(tuple(tables))
+    return found
+
+
+def tables_near(layouts, many):
+    """Each of the layouts with each of so many drawn tables of it."""
+    return [(layout, tables) for layout in layouts for tables in drawn_tables(layout, many)]
+
+
+def part(layout, row, columns):
+    """What a joined row has of some columns."""
+    return tuple(row[in_heads(layout).index(c)] for c in columns)
+
+
+def plain_joined(layout, tables):
+    """All joined rows, by 73: whatever rows of numbers there are, of which each head's are in its table."""
+    columns = in_heads(layout)
+    numbers = [sorted({row[head.index(c)] for head, table in zip(layout[1], tables) if c in head for row in table})
+               for c in columns]
+    rows = [()]
+    for place, column in enumerate(columns):
+        rows = [row + (number,) for row in rows for number in numbers[place]]
+        for head, table in zip(layout[1], tables):
+            # What no row of a table begins with goes at once: else there were too many to go through.
+            if column in head:
+                size = head.index(column) + 1
+                places = [columns.index(c) for c in head[:size]]
+                there = {row[:size] for row in table}
+                rows = [row for row in rows if tuple(row[k] for k in places) in there]
+    return rows
+
+
+def plain_agree(layout, tables):
+    """Whether tables agree, by 72."""
+    for (one, mine), (other, theirs) in itertools.combinations(list(zip(layout[1], tables)), 2):
+        shared = [c for c in one if c in other]
+        if {tuple(row[one.index(c)] for c in shared) for row in mine} != {
+                tuple(row[other.index(c)] for c in shared) for row in theirs}:
+            return False
+    return True
+
+
+def plain_parts(layout, tables):
+    """For each table the rows that are in some joined row, by 81."""
+    rows = plain_joined(layout, tables)
+    return tuple(tuple(sorted({part(layout, row, head) for row in rows})) for head in layout[1])
+
+
+def plain_cut(layout, tables, deeds):
+    """The tables when the deeds are done, by 81."""
+    tables = list(tables)
+    for one, other in deeds:
+        mine, theirs = layout[1][one], layout[1][other]
+        shared = [c for c in mine if c in theirs]
+        tables[one] = tuple(row for row in tables[one] if any(
+            all(row[mine.index(c)] == there[theirs.index(c)] for c in shared) for there in tables[other]))
+    return tuple(tables)
+
+
+def has_join_tree(layout):
+    """Whether a layout has a join tree, by 31."""
+    return any(joins(layout, tree) for tree in plain_trees(layout))
+
+
+def spoiled_tables(layout, tables):
+    """Things that are no tables of the layout: one table, row or number of it spoiled, at each place."""
+    found = [list(tables), tables + ((),), tables[:-1], tables + (tables[-1],), tables[0], (tables,), ()]
+    for place, (head, table) in enumerate(zip(layout[1], tables)):
+        width = len(head)
+        good, more = (0,) * width, (1,) * width
+        wrong = [[good], [], None, 0, "0" * width, {good: good}, (good, good), (more, good), (good, more, good),
+                 (good, more, more), good, (list(good),), (good[:-1],), (good + (0,),), (good, more + (1,)),
+                 (good, more[:-1]), (good[:-1] + (10,),), (good[:-1] + (-1,),), (good[:-1] + (True,),),
+                 (good[:-1] + (False,),), ((False,) + good[1:],), (good[:-1] + ("0",),), (good[:-1] + (None,),),
+                 (good[:-1] + ((0,),),), (good[:-1] + (BIG,),), (good, None), (good, "1" * width), (good, list(more)),
+                 ((),), (good, ()), ("",), (None,), (0,)]
+        found += [tables[:place] + (thing,) + tables[place + 1:] for thing in wrong]
+    return found

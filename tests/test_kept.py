@@ -4,23 +4,38 @@ import copy
 import unittest
 
 from jointrees.bars import bar_for, is_bar
+from jointrees.counts import joined_at, joined_columns, many_joined, many_saying, number_of
+from jointrees.cuts import cut_by, deeds_for, joined_parts
 from jointrees.ears import are_steps, bare_core, ears, left_by, steps_for
 from jointrees.errors import JoinError
 from jointrees.layouts import beside, common, heads_of, is_layout, named, pieces, without
 from jointrees.loops import counts_of, is_loop, loop_of
 from jointrees.nests import are_nests, first_nests, heads_alone, is_wreath, wreath_of
 from jointrees.orders import column_order_for, is_column_order, is_running, running_for
+from jointrees.parting import are_parting, parting_of
+from jointrees.tables import agree, are_tables, columns_of, joined
 from jointrees.trees import (all_join_trees, due_weight, first_join_tree, is_join_tree, is_tree, many_join_trees,
                              way_in, weight_of)
-from tests.samples import ALIKE, COVERED, LAYOUTS, LINE, ODD, PATH, RING, TWINS, wide_layouts
+from tests.samples import (ALIKE, COVERED, LAYOUTS, LINE, ODD, PATH, RING, TWINS, full_tables, has_join_tree,
+                           spoiled_tables, tables_near, wide_layouts)
 
 LISTS = [pieces, ears, steps_for, all_join_trees]
-TUPLES_OR_NONE = [bar_for, first_nests, wreath_of, loop_of, counts_of, running_for, column_order_for]
+TUPLES_OR_NONE = [bar_for, first_nests, wreath_of, loop_of, counts_of, running_for, column_order_for, parting_of]
 OF_ONE_LAYOUT = LISTS + TUPLES_OR_NONE + [bare_core, first_join_tree, many_join_trees, due_weight]
-LOOKERS = [are_steps, is_tree, is_join_tree, is_bar, are_nests, is_wreath, is_loop, is_running, is_column_order]
+LOOKERS = [are_steps, is_tree, is_join_tree, is_bar, are_nests, is_wreath, is_loop, is_running, is_column_order,
+           are_tables, are_parting]
 OF_A_LAYOUT_AND_A_THING = LOOKERS + [heads_of, named, without, left_by, weight_of, heads_alone]
 LOOKED_AT_BY = [(bar_for, is_bar), (first_nests, are_nests), (wreath_of, is_wreath), (loop_of, is_loop),
-                (running_for, is_running), (column_order_for, is_column_order)]
+                (running_for, is_running), (column_order_for, is_column_order), (parting_of, are_tables),
+                (parting_of, are_parting)]
+PATH_TABLES = full_tables(PATH, 3, 7)
+# What may be asked of PATH's tables, right and wrong.
+ASKED_OF_TABLES = [
+    (agree,), (joined,), (joined_parts,), (many_joined,), (columns_of, 0, (1,)), (columns_of, 0, [1]),
+    (columns_of, 5, ()), (cut_by, [(0, 1), (1, 2)]), (cut_by, [(0, 1), [1, 2]]), (cut_by, [[0, 1]]), (cut_by, ((0, 1),)),
+    (joined_at, 1), (joined_at, [1]), (joined_at, 10 ** 9), (number_of, (0, 0, 0, 0)), (number_of, [0, 0, 0, 0]),
+    (many_saying, ((0, 0), (2, 1))), (many_saying, [(0, 0)]), (many_saying, ([0, 0],)), (joined_columns, (0, 3)),
+    (joined_columns, [0, 3])]
 
 
 def answer(ask, things):
@@ -77,6 +92,49 @@ class Kept(unittest.TestCase):
             self.check(way_in, PATH, ((0, 1), (1, 2)), 0, thing)
         self.check(beside, ALIKE, RING)
 
+    def test_what_tables_are_asked(self):
+        wrong = spoiled_tables(PATH, PATH_TABLES) + [[list(map(list, table)) for table in PATH_TABLES], [[], [], []]]
+        for ask, *things in ASKED_OF_TABLES:
+            self.check(ask, PATH, PATH_TABLES, *things)
+            for tables in wrong:
+                self.check(ask, PATH, tables, *things)
+            self.check(ask, RING, full_tables(RING, 2), *things)
+        for layout, tables in tables_near(LAYOUTS, 2):
+            for ask in (are_tables, are_parting, agree, joined, joined_parts, many_joined):
+                self.check(ask, layout, tables)
+        for layout in LAYOUTS:
+            self.check(deeds_for, layout)
+
+    def test_lists_told_of_tables_are_new(self):
+        for ask, things in ((joined, ()), (joined_columns, ((0, 2),))):
+            told = ask(PATH, PATH_TABLES, *things)
+            before = list(told)
+            self.assertIs(type(told), list)
+            self.assertGreater(len(told), 2)
+            told.reverse()
+            told.append(None)
+            self.assertEqual(ask(PATH, PATH_TABLES, *things), before)
+        for layout in filter(has_join_tree, LAYOUTS):
+            told = deeds_for(layout)
+            before = list(told)
+            self.assertIs(type(told), list)
+            told.append(None)
+            self.assertEqual(deeds_for(layout), before)
+
+    def test_deeds_changed_later_change_nothing(self):
+        deeds = [(1, 0)]
+        told = cut_by(PATH, PATH_TABLES, deeds)
+        before = repr(told)
+        deeds.append((0, 1))
+        deeds.reverse()
+        self.assertEqual(repr(told), before)
+
+    def test_told_tables_are_made_of_tuples_and_whole_numbers(self):
+        for told in (cut_by(PATH, PATH_TABLES, []), cut_by(PATH, PATH_TABLES, [(0, 1)]), joined_parts(PATH, PATH_TABLES),
+                     columns_of(PATH, PATH_TABLES, 0, (1,)), joined_at(PATH, PATH_TABLES, 0),
+                     tuple(joined(PATH, PATH_TABLES)), tuple(joined_columns(PATH, PATH_TABLES, (0, 1)))):
+            self.assertEqual(kinds_within(told), {tuple, int})
+
     def test_a_looker_tells_true_or_false_of_whatever_it_is_handed(self):
         things = ODD + [ask(layout) for layout in LAYOUTS for ask in OF_ONE_LAYOUT] + LAYOUTS
         for layout in LAYOUTS:
@@ -111,6 +169,11 @@ class Kept(unittest.TestCase):
         self.assertIs(is_join_tree(COVERED, all_join_trees(COVERED)[0]), True)
         self.assertIs(is_layout(without(named(beside(LINE, TWINS), (4, 3, 2, 1, 0)), 0)), True)
         self.assertIs(is_layout(heads_alone(without(COVERED, 0), running_for(PATH)[:2])), True)
+        cut = cut_by(PATH, joined_parts(PATH, PATH_TABLES), deeds_for(PATH))
+        self.assertIs(agree(PATH, cut), True)
+        self.assertEqual(number_of(PATH, cut, joined(PATH, PATH_TABLES)[3]), 3)
+        self.assertEqual(number_of(PATH, cut, joined_at(PATH, cut, 2)), 2)
+        self.assertEqual(joined(RING, parting_of(RING)), [])
         for layout in LAYOUTS + wide_layouts(60):
             for ask, look in LOOKED_AT_BY:
                 self.assertIs(look(layout, ask(layout)), ask(layout) is not None, (layout, ask))

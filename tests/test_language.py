@@ -32,6 +32,47 @@ NODES = {
 ON_THE_SPOT = {"zip", "enumerate", "reversed", "range"}
 
 
+BARRED_ATTRIBUTES = set(
+    "items keys values pop update append clear extend insert remove reverse setdefault sort args encode decode hex "
+    "fromhex format as_integer_ratio bit_count conjugate from_bytes is_integer to_bytes".split())
+
+
+def own_methods():
+    """The names of all methods of the package's classes."""
+    trees = [ast.parse(path.read_text()) for path in FILES]
+    classes = [node for tree in trees for node in ast.walk(tree) if isinstance(node, ast.ClassDef)]
+    return {part.name for node in classes for part in node.body if isinstance(part, ast.FunctionDef)}
+
+
+def own_attributes():
+    """The names of all attributes that the package sets."""
+    nodes = [node for path in FILES for node in ast.walk(ast.parse(path.read_text()))]
+    return {node.attr for node in nodes if isinstance(node, ast.Attribute) and isinstance(node.ctx, ast.Store)}
+
+
+OWN_METHODS = own_methods()
+OWN_ATTRIBUTES = own_attributes()
+
+
+def is_set(node):
+    """Whether a part of the text makes a set."""
+    called = isinstance(node, ast.Call) and isinstance(node.func, ast.Name) and node.func.id in ("set", "frozenset")
+    return called or isinstance(node, (ast.Set, ast.SetComp))
+
+
+def set_places(tree):
+    """The parts of a tree at which a set may stand: looked in, sorted, counted, held against another one."""
+    places = []
+    for node in ast.walk(tree):
+        if isinstance(node, ast.Compare) and isinstance(node.ops[0], (ast.In, ast.NotIn)):
+            places.append(node.comparators[0])
+        if isinstance(node, ast.Compare) and is_set(node.left) and is_set(node.comparators[0]):
+            places += [node.left, node.comparators[0]]
+        if isinstance(node, ast.Call) and isinstance(node.func, ast.Name) and node.func.id in ("sorted", "len"):
+            places += node.args
+    return places
+
+
 def functions(tree):
     """All functions and methods of a file."""
     return [node for node in ast.walk(tree) if isinstance(node, ast.FunctionDef)]
@@ -119,9 +160,34 @@ class Language(unittest.TestCase):
             if isinstance(node, ast.Name) and node.id in dir(builtins):
                 self.assertIn(node.id, BUILTINS)
             if isinstance(node, ast.Attribute):
-                self.assertIn(node.attr, METHODS)
+                self.assertIn(node.attr, METHODS | OWN_METHODS | OWN_ATTRIBUTES)
         names = [part.name for part in tree.body if isinstance(part, (ast.FunctionDef, ast.ClassDef))]
         self.assertEqual(len(names), len(set(names)))
+
+    def test_methods_and_attributes(self):
+        self.assertEqual(OWN_METHODS & OWN_ATTRIBUTES, set())
+        self.assertEqual(OWN_ATTRIBUTES & BARRED_ATTRIBUTES, set())
+        self.assertEqual([name for name in OWN_METHODS if name.startswith("__")], ["__init__"])
+
+    @each_file
+    def test_sets(self, text, tree):
+        for function in functions(tree):
+            places = set_places(function)
+            stored = [node for node in ast.walk(function) if isinstance(node, ast.Assign) and is_set(node.value)]
+            names = [node.targets[0].id for node in stored]
+            self.assertEqual(len(names), len(set(names)))
+            for node in ast.walk(function):
+                if is_set(node):
+                    self.assertTrue(node in places or node in [one.value for one in stored], ast.dump(node))
+                if isinstance(node, ast.Name) and node.id in names and isinstance(node.ctx, ast.Load):
+                    self.assertIn(node, places)
+
+    @each_file
+    def test_powers(self, text, tree):
+        for node in ast.walk(tree):
+            if isinstance(node, ast.BinOp) and isinstance(node.op, ast.Pow):
+                self.assertIsInstance(node.right, ast.Constant)
+                self.assertLessEqual(node.right.value, 64)
 
     @each_file
     def test_iterated_on_the_spot(self, text, tree):
