@@ -196,7 +196,7 @@ def codes_for(layout, tables, steps, columns):
 
 def codes_of_all(lot):
     """The codes that lists of them have, each once."""
-    codes = sorted({code for codes in lot for code in codes})
+    codes = sorted({code for some in lot for code in some})
     need_few(len(codes))
     return codes
 

@@ -1,5 +1,6 @@
 """Layouts and odd things for the tests, and plain readings of the document to hold the program against."""
 
+import functools
 import itertools
 import random
 
@@ -336,6 +337,7 @@ def plain_cut(layout, tables, deeds):
     return tuple(tables)
 
 
+@functools.lru_cache(maxsize=None)
 def has_join_tree(layout):
     """Whether a layout has a join tree, by 31."""
     return any(joins(layout, tree) for tree in plain_trees(layout))
@@ -355,3 +357,67 @@ def spoiled_tables(layout, tables):
                  ((),), (good, ()), ("",), (None,), (0,)]
         found += [tables[:place] + (thing,) + tables[place + 1:] for thing in wrong]
     return found
+
+
+def drawn_prices(tables, seed=60):
+    """Prices of tables, the same ones each time: at times few, so that many are alike, at times up to the greatest."""
+    draw = random.Random(f"{seed} {tables}")
+    most = draw.choice((1, 2, 9, 10 ** 12))
+    return tuple(tuple(draw.randint(0, most) for _ in table) for table in tables)
+
+
+def plain_price(layout, tables, prices, row):
+    """The price of a joined row, by 101."""
+    return sum(costs[table.index(part(layout, row, head))] for head, table, costs in zip(layout[1], tables, prices))
+
+
+def plain_cheapest(layout, tables, prices):
+    """The cheapest joined row, by 101."""
+    rows = plain_joined(layout, tables)
+    return min(((plain_price(layout, tables, prices, row), row) for row in rows), default=None)
+
+
+def drawn_paper(layout, seed, figures=3):
+    """A price paper of a layout, the same one each time: some tree of it, and moves either way."""
+    draw = random.Random(f"{seed} {layout}")
+    tree = draw.choice(plain_trees(layout))
+    moves = []
+    for one, other in tree:
+        size = len(set(layout[1][one]) & set(layout[1][other]))
+        numbers = {tuple(draw.randrange(figures) for _ in range(size)) for _ in range(draw.choice((0, 1, 3, 9)))}
+        moves.append(tuple((some, draw.randint(-20, 20)) for some in sorted(numbers)))
+    return (tree, tuple(moves))
+
+
+def plain_shows(layout, tables, prices, paper):
+    """What a price paper shows of tables that have rows, by 102."""
+    total = 0
+    for number, (head, table, costs) in enumerate(zip(layout[1], tables, prices)):
+        found = []
+        for row, cost in zip(table, costs):
+            for (one, other), moves in zip(*paper):
+                shared = [c for c in layout[1][one] if c in layout[1][other]]
+                for numbers, more in moves:
+                    if number in (one, other) and tuple(row[head.index(c)] for c in shared) == numbers:
+                        cost += more if number == one else -more
+            found.append(cost)
+        total += min(found)
+    return total
+
+
+def is_plain_paper(layout, thing):
+    """Whether a thing is a price paper, by 102."""
+    if type(thing) is not tuple or len(thing) != 2 or repr(thing[0]) not in map(repr, plain_trees(layout)):
+        return False
+    if type(thing[1]) is not tuple or len(thing[1]) != len(thing[0]):
+        return False
+    for (one, other), moves in zip(*thing):
+        choice = itertools.product(range(10), repeat=len(set(layout[1][one]) & set(layout[1][other])))
+        written = {repr(numbers) for numbers in choice}
+        if type(moves) is not tuple or not all(type(move) is tuple and len(move) == 2 for move in moves):
+            return False
+        if not all(repr(numbers) in written and type(more) is int for numbers, more in moves):
+            return False
+        if list(moves) != sorted(moves) or len({numbers for numbers, more in moves}) != len(moves):
+            return False
+    return True

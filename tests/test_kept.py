@@ -6,14 +6,18 @@ import unittest
 from jointrees.bars import bar_for, is_bar
 from jointrees.counts import joined_at, joined_columns, many_joined, many_saying, number_of
 from jointrees.cuts import cut_by, deeds_for, joined_parts
+from jointrees.dear import are_prices, cheapest, price_of
+from jointrees.desk import Desk
 from jointrees.ears import are_steps, bare_core, ears, left_by, steps_for
 from jointrees.errors import JoinError
 from jointrees.layouts import beside, common, heads_of, is_layout, named, pieces, without
 from jointrees.loops import counts_of, is_loop, loop_of
 from jointrees.nests import are_nests, first_nests, heads_alone, is_wreath, wreath_of
 from jointrees.orders import column_order_for, is_column_order, is_running, running_for
+from jointrees.papers import paper_shows, price_paper
 from jointrees.parting import are_parting, parting_of
 from jointrees.tables import agree, are_tables, columns_of, joined
+from jointrees.texts import layout_read, layout_text, table_read, table_text
 from jointrees.trees import (all_join_trees, due_weight, first_join_tree, is_join_tree, is_tree, many_join_trees,
                              way_in, weight_of)
 from tests.samples import (ALIKE, COVERED, LAYOUTS, LINE, ODD, PATH, RING, TWINS, full_tables, has_join_tree,
@@ -29,13 +33,19 @@ LOOKED_AT_BY = [(bar_for, is_bar), (first_nests, are_nests), (wreath_of, is_wrea
                 (running_for, is_running), (column_order_for, is_column_order), (parting_of, are_tables),
                 (parting_of, are_parting)]
 PATH_TABLES = full_tables(PATH, 3, 7)
+PATH_PRICES = ((3, 1, 4, 1, 5, 9, 2),) * 3
+PATH_PAPER = (((0, 1), (1, 2)), ((((0,), 2), ((1,), -3)), (((1,), 4),)))
 # What may be asked of PATH's tables, right and wrong.
 ASKED_OF_TABLES = [
     (agree,), (joined,), (joined_parts,), (many_joined,), (columns_of, 0, (1,)), (columns_of, 0, [1]),
     (columns_of, 5, ()), (cut_by, [(0, 1), (1, 2)]), (cut_by, [(0, 1), [1, 2]]), (cut_by, [[0, 1]]), (cut_by, ((0, 1),)),
     (joined_at, 1), (joined_at, [1]), (joined_at, 10 ** 9), (number_of, (0, 0, 0, 0)), (number_of, [0, 0, 0, 0]),
     (many_saying, ((0, 0), (2, 1))), (many_saying, [(0, 0)]), (many_saying, ([0, 0],)), (joined_columns, (0, 3)),
-    (joined_columns, [0, 3])]
+    (joined_columns, [0, 3]), (are_prices, PATH_PRICES), (are_prices, [[3, 1]]), (cheapest, PATH_PRICES),
+    (cheapest, list(PATH_PRICES)), (price_of, PATH_PRICES, (0, 0, 0, 0)), (price_of, PATH_PRICES, [0, 0, 0, 0]),
+    (price_of, [[3]], (0, 0, 0, 0)), (paper_shows, PATH_PRICES, PATH_PAPER), (paper_shows, PATH_PRICES, [[], [[]]]),
+    (paper_shows, PATH_PRICES, (((0, 1), (1, 2)), ([], [[(0,), 2]]))), (paper_shows, [], PATH_PAPER),
+    (price_paper, PATH_PRICES), (price_paper, [[3, 1, 4]])]
 
 
 def answer(ask, things):
@@ -105,6 +115,24 @@ class Kept(unittest.TestCase):
         for layout in LAYOUTS:
             self.check(deeds_for, layout)
 
+    def test_texts_and_desks(self):
+        for thing in ODD + [[["3 : 0"]], {"show": ["show"]}, ["show"]]:
+            self.check(layout_read, thing)
+            self.check(table_read, thing)
+            self.check(Desk().say, thing)
+        for layout in LAYOUTS:
+            self.check(layout_text, layout)
+            self.check(layout_read, layout_text(layout))
+        for table in PATH_TABLES + ((),):
+            self.check(table_text, table)
+            self.check(table_read, table_text(table))
+        desk = Desk()
+        for row in ("layout 3 : 0,1 1,2", "put 0 01", "put 1 12"):
+            desk.say(row)
+        for row in ("show", "table 0", "tree", "nests", "agree", "joined", "many", "at 0", "at 1", "put 0 01", "put 9 0",
+                    "take 0 22", "nothing"):
+            self.check(desk.say, row)
+
     def test_lists_told_of_tables_are_new(self):
         for ask, things in ((joined, ()), (joined_columns, ((0, 2),))):
             told = ask(PATH, PATH_TABLES, *things)
@@ -131,7 +159,8 @@ class Kept(unittest.TestCase):
 
     def test_told_tables_are_made_of_tuples_and_whole_numbers(self):
         for told in (cut_by(PATH, PATH_TABLES, []), cut_by(PATH, PATH_TABLES, [(0, 1)]), joined_parts(PATH, PATH_TABLES),
-                     columns_of(PATH, PATH_TABLES, 0, (1,)), joined_at(PATH, PATH_TABLES, 0),
+                     columns_of(PATH, PATH_TABLES, 0, (1,)), cheapest(PATH, PATH_TABLES, PATH_PRICES),
+                     price_paper(PATH, PATH_TABLES, PATH_PRICES), layout_read("3 : 0,1 1,2"), table_read("01 12"), joined_at(PATH, PATH_TABLES, 0),
                      tuple(joined(PATH, PATH_TABLES)), tuple(joined_columns(PATH, PATH_TABLES, (0, 1)))):
             self.assertEqual(kinds_within(told), {tuple, int})
 
@@ -174,6 +203,11 @@ class Kept(unittest.TestCase):
         self.assertEqual(number_of(PATH, cut, joined(PATH, PATH_TABLES)[3]), 3)
         self.assertEqual(number_of(PATH, cut, joined_at(PATH, cut, 2)), 2)
         self.assertEqual(joined(RING, parting_of(RING)), [])
+        price, row = cheapest(PATH, PATH_TABLES, PATH_PRICES)
+        self.assertEqual(price_of(PATH, PATH_TABLES, PATH_PRICES, row), price)
+        self.assertEqual(paper_shows(PATH, PATH_TABLES, PATH_PRICES, price_paper(PATH, PATH_TABLES, PATH_PRICES)), price)
+        self.assertEqual(table_read(table_text(tuple(joined(PATH, PATH_TABLES)))), tuple(joined(PATH, PATH_TABLES)))
+        self.assertIs(is_layout(layout_read(layout_text(RING))), True)
         for layout in LAYOUTS + wide_layouts(60):
             for ask, look in LOOKED_AT_BY:
                 self.assertIs(look(layout, ask(layout)), ask(layout) is not None, (layout, ask))

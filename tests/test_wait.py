@@ -8,12 +8,16 @@ import unittest
 from jointrees.bars import bar_for, is_bar
 from jointrees.counts import joined_at, joined_columns, many_joined, many_saying, number_of
 from jointrees.cuts import cut_by, deeds_for, joined_parts
+from jointrees.dear import are_prices, cheapest, price_of
+from jointrees.desk import Desk
 from jointrees.errors import JoinError
 from jointrees.loops import counts_of, is_loop, loop_of
 from jointrees.nests import are_nests, first_nests, is_wreath, wreath_of
 from jointrees.orders import column_order_for, is_column_order, is_running, running_for
+from jointrees.papers import paper_shows, price_paper
 from jointrees.parting import are_parting, parting_of
 from jointrees.tables import agree, are_tables, columns_of, joined
+from jointrees.texts import layout_read, layout_text, table_read, table_text
 from tests import samples
 
 ASKS = [bar_for, first_nests, wreath_of, loop_of, counts_of, running_for, column_order_for, parting_of, deeds_for]
@@ -99,3 +103,31 @@ class Wait(unittest.TestCase):
                                      (joined_columns, tuple(columns[-3:]))):
                     with self.subTest((ask.__name__, layout)):
                         self.no_long_wait(ask, layout, tables, *things)
+
+    def test_large_tables_and_prices(self):
+        for layout in TABLED:
+            tree = tuple((0, k) for k in range(1, len(layout[1])))
+            for tables in large_tables(layout):
+                prices = tuple(tuple(7 * k % 1000 for k in range(len(table))) for table in tables)
+                self.assertIs(are_prices(layout, tables, prices), True)
+                papers = [(tree, ((),) * len(tree)), (tree, (tuple(((k,), k) for k in range(10)),) * len(tree))]
+                for ask, *things in ((are_prices,), (cheapest,), (price_paper,), (price_of, (0,) * 7),
+                                     (paper_shows, papers[0]), (paper_shows, papers[1])):
+                    with self.subTest((ask.__name__, layout)):
+                        self.no_long_wait(ask, layout, tables, prices, *things)
+
+    def test_texts_and_desks(self):
+        for layout in TABLED:
+            self.no_long_wait(layout_read, layout_text(layout))
+            for table in large_tables(layout)[0]:
+                self.no_long_wait(table_read, table_text(table))
+        desk = Desk()
+        desk.say("layout 7 : 0,1,2 2,3,4 4,5,6 0,1,2 2,3,4 4,5,6")
+        for head in range(6):
+            for row in samples.all_rows((0, 1, 2), 10):
+                self.no_long_wait(desk.say, f"put {head} {''.join(map(str, row))}")
+        for row in ("table 5", "tree", "nests", "agree", "joined", "many", "at 0", "at 999999", "undo", "show"):
+            self.no_long_wait(desk.say, row)
+        for text in ("0" * 2600, "0 " * 1300, "a" * 2600, "put 0 " + "0" * 2590, "at " + "9" * 2597, " " * 2600):
+            for ask in (layout_read, table_read, desk.say):
+                self.no_long_wait(ask, text)
